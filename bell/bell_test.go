@@ -9,81 +9,14 @@ import (
 	"waywarden/graph"
 	"waywarden/mat"
 	"waywarden/plain"
+	"waywarden/sample"
 )
-
-// notNodes are numbers that are no nodes of a graph with n nodes; some of them
-// are nodes in their low bits.
-func notNodes(n int) []int {
-	return []int{math.MinInt, -1 << 32, -n, -1, n, n + 1, 256, 1 << 32, 1<<32 + n - 1, math.MaxInt}
-}
 
 // notDistances are numbers that are no distances; some of them are distances
 // in their low bits, or are small when a cost is added.
 var notDistances = []int{
 	math.MinInt, -1 << 32, -256, -16, -15, -1,
 	17, 18, 32, 256, 1 << 32, 1<<32 + 9, math.MaxInt - 15, math.MaxInt,
-}
-
-// links returns each three numbers as a link.
-func links(numbers ...int) []api.Link {
-	var l []api.Link
-	for at := 0; at < len(numbers); at += 3 {
-		l = append(l, api.Link{A: numbers[at], B: numbers[at+1], Cost: numbers[at+2]})
-	}
-	return l
-}
-
-// chain returns a link of this cost from each node to the next one.
-func chain(n, cost int) []api.Link {
-	var l []api.Link
-	for b := 1; b < n; b++ {
-		l = append(l, api.Link{A: b - 1, B: b, Cost: cost})
-	}
-	return l
-}
-
-// made returns a graph with n nodes that depends on the seed: links between
-// some of the pairs, of costs up to most, in mixed order and direction.
-func made(n, seed, most int) []api.Link {
-	var l []api.Link
-	for a := range n {
-		for b := range a {
-			r := api.Mix(seed, a*api.MaxNodes+b)
-			link := api.Link{A: a, B: b, Cost: 1 + r/16%most}
-			if r&1 == 1 {
-				link.A, link.B = b, a
-			}
-			if r/2%8 > seed%7 {
-				l = slices.Insert(l, r/256%(len(l)+1), link)
-			}
-		}
-	}
-	return l
-}
-
-// graphs calls f for many valid graphs of every size, among them some that
-// have no links, and some that are in several parts.
-func graphs(f func(n int, l []api.Link)) {
-	for n := 1; n <= api.MaxNodes; n++ {
-		f(n, nil)
-		f(n, []api.Link{})
-		for _, most := range []int{1, 2, 4, 8, 15} {
-			f(n, chain(n, most))
-			f(n, chain(n-n/2, most))
-			for seed := range 28 {
-				f(n, made(n, seed, most))
-			}
-		}
-	}
-}
-
-// flipped returns the links in the opposite order, with their ends exchanged.
-func flipped(l []api.Link) []api.Link {
-	var other []api.Link
-	for _, link := range slices.Backward(l) {
-		other = append(other, api.Link{A: link.B, B: link.A, Cost: link.Cost})
-	}
-	return other
 }
 
 // first returns what Start has to return.
@@ -166,7 +99,7 @@ func wantRunError(t *testing.T, n int, l []api.Link, to int, want api.Errno) {
 }
 
 func TestExample(t *testing.T) {
-	l := links(0, 1, 3, 1, 2, 4)
+	l := sample.Links(0, 1, 3, 1, 2, 4)
 	wantRun(t, 3, l, 0, []int{0, 3, 7}, 2)
 	wantStart(t, 3, 0, []int{0, 16, 16})
 	wantRound(t, 3, l, 0, []int{0, 16, 16}, []int{0, 3, 16})
@@ -185,10 +118,10 @@ func TestStart(t *testing.T) {
 // TestNumberOfNodes: of 0 nodes, of more than 8, and of numbers that are
 // valid in their low bits, there is no graph.
 func TestNumberOfNodes(t *testing.T) {
-	for _, n := range []int{math.MinInt, -1 << 32, -8, -1, 0, 9, 10, 16, 256 + 8, 1<<32 + 1, 1<<32 + 8, 1 << 62, math.MaxInt} {
+	for _, n := range sample.NotSizes() {
 		for _, to := range []int{-1, 0, 1, 7, 8, n - 1, n, n + 1} {
 			wantStartError(t, n, to)
-			for _, l := range [][]api.Link{nil, links(0, 1, 4), links(0, 0, 4), links(0, 1, 4, 1, 0, 4)} {
+			for _, l := range [][]api.Link{nil, sample.Links(0, 1, 4), sample.Links(0, 0, 4), sample.Links(0, 1, 4, 1, 0, 4)} {
 				wantRunError(t, n, l, to, api.ErrRange)
 				for _, length := range []int{0, 1, 8, 9, 10} {
 					wantRoundError(t, n, l, to, make([]int, length), api.ErrRange)
@@ -202,7 +135,7 @@ func TestNumberOfNodes(t *testing.T) {
 // are none.
 func TestNodeTo(t *testing.T) {
 	for n := 1; n <= 8; n++ {
-		for _, l := range [][]api.Link{nil, chain(n, 1), made(n, 1, 4)} {
+		for _, l := range [][]api.Link{nil, sample.Chain(n, 1), sample.Made(n, 1, 4)} {
 			for _, to := range []int{0, n - 1} {
 				_, errStart := Start(n, to)
 				_, errRound := Round(n, l, to, make([]int, n))
@@ -211,7 +144,7 @@ func TestNodeTo(t *testing.T) {
 					t.Errorf("node %d of %d: errors %v, %v and %v", to, n, errStart, errRound, errRun)
 				}
 			}
-			for _, to := range notNodes(n) {
+			for _, to := range sample.NotNodes(n) {
 				wantStartError(t, n, to)
 				wantRoundError(t, n, l, to, make([]int, n), api.ErrRange)
 				wantRunError(t, n, l, to, api.ErrRange)
@@ -225,11 +158,11 @@ func TestLengthOfEstimates(t *testing.T) {
 	for n := 1; n <= 8; n++ {
 		for to := range n {
 			for _, length := range []int{0, n - 1, n + 1, 2 * n, n + 256, 1 << 16} {
-				wantRoundError(t, n, chain(n, 2), to, make([]int, length), api.ErrForm)
+				wantRoundError(t, n, sample.Chain(n, 2), to, make([]int, length), api.ErrForm)
 				wantRoundError(t, n, nil, to, make([]int, length), api.ErrForm)
 			}
-			wantRoundError(t, n, chain(n, 2), to, nil, api.ErrForm)
-			wantRoundError(t, n, chain(n, 2), to, make([]int, n-1, n), api.ErrForm)
+			wantRoundError(t, n, sample.Chain(n, 2), to, nil, api.ErrForm)
+			wantRoundError(t, n, sample.Chain(n, 2), to, make([]int, n-1, n), api.ErrForm)
 		}
 	}
 }
@@ -240,7 +173,7 @@ func TestLimitsOfEstimates(t *testing.T) {
 	for n := 1; n <= 8; n++ {
 		for to := range n {
 			for at := range n {
-				for _, l := range [][]api.Link{nil, chain(n, 1)} {
+				for _, l := range [][]api.Link{nil, sample.Chain(n, 1)} {
 					d := first(n, to)
 					for _, valid := range []int{0, 1, 15, 16} {
 						d[at] = valid
@@ -256,39 +189,16 @@ func TestLimitsOfEstimates(t *testing.T) {
 	}
 }
 
-// fault is a list of links that is at fault, and its error.
-type fault struct {
-	links []api.Link
-	want  api.Errno
-}
-
-// faults are lists of links between 3 nodes that have one fault or several.
-func faults() []fault {
-	return []fault{
-		{links(0, 3, 1), api.ErrRange},
-		{links(-1, 1, 1), api.ErrRange},
-		{links(0, 1, 0), api.ErrRange},
-		{links(0, 1, 16), api.ErrRange},
-		{links(1, 1, 16), api.ErrRange},
-		{links(1, 1, 1), api.ErrForm},
-		{links(0, 1, 1, 2, 2, 1, 0, 3, 1), api.ErrForm},
-		{links(0, 1, 1, 0, 1, 1), api.ErrTwice},
-		{links(0, 1, 1, 1, 2, 1, 1, 0, 2), api.ErrTwice},
-		{links(0, 1, 1, 1, 0, 2, 2, 2, 1), api.ErrTwice},
-		{slices.Repeat(links(0, 1, 1), 100000), api.ErrTwice},
-	}
-}
-
 // TestErrorOfLinks: it comes first, whatever else is at fault.
 func TestErrorOfLinks(t *testing.T) {
-	for _, c := range faults() {
-		for _, to := range append(notNodes(3), 0, 1, 2) {
-			if got, k, err := Run(3, c.links, to); len(got) != 0 || k != 0 || plain.Told(err) != c.want {
-				t.Errorf("Run(3, %v, %d) = %v, %d, %v, want none, 0, %v", c.links[:min(len(c.links), 3)], to, got, k, err, c.want)
+	for _, c := range sample.Faults() {
+		for _, to := range append(sample.NotNodes(3), 0, 1, 2) {
+			if got, k, err := Run(3, c.Links, to); len(got) != 0 || k != 0 || plain.Told(err) != c.Want {
+				t.Errorf("Run(3, %v, %d) = %v, %d, %v, want none, 0, %v", c.Links[:min(len(c.Links), 3)], to, got, k, err, c.Want)
 			}
 			for _, d := range [][]int{{0, 16, 16}, nil, {0, 1}, {0, 1, 2, 3}, {-1, 17, 0}, {17, 0}} {
-				if got, err := Round(3, c.links, to, d); len(got) != 0 || plain.Told(err) != c.want {
-					t.Errorf("Round(3, %v, %d, %v) = %v, %v, want none, %v", c.links[:min(len(c.links), 3)], to, d, got, err, c.want)
+				if got, err := Round(3, c.Links, to, d); len(got) != 0 || plain.Told(err) != c.Want {
+					t.Errorf("Round(3, %v, %d, %v) = %v, %v, want none, %v", c.Links[:min(len(c.Links), 3)], to, d, got, err, c.Want)
 				}
 			}
 		}
@@ -298,8 +208,8 @@ func TestErrorOfLinks(t *testing.T) {
 // TestFirstErrorOfRound: that there is no node to is told before the length of
 // the estimates, and this before an estimate that is no distance.
 func TestFirstErrorOfRound(t *testing.T) {
-	l := links(0, 1, 3, 1, 2, 4)
-	for _, to := range notNodes(3) {
+	l := sample.Links(0, 1, 3, 1, 2, 4)
+	for _, to := range sample.NotNodes(3) {
 		for _, d := range [][]int{nil, {0}, {0, 1, 2, 3}, {17, 0, 0}, {-1}, make([]int, 9)} {
 			wantRoundError(t, 3, l, to, d, api.ErrRange)
 		}
@@ -321,26 +231,26 @@ func TestRoundOverOneLink(t *testing.T) {
 	for cost := 1; cost <= 15; cost++ {
 		for p := range 17 {
 			for q := range 17 {
-				wantRound(t, 2, links(0, 1, cost), 0, []int{p, q}, []int{0, min(p+cost, 16)})
-				wantRound(t, 2, links(0, 1, cost), 1, []int{p, q}, []int{min(q+cost, 16), 0})
+				wantRound(t, 2, sample.Links(0, 1, cost), 0, []int{p, q}, []int{0, min(p+cost, 16)})
+				wantRound(t, 2, sample.Links(0, 1, cost), 1, []int{p, q}, []int{min(q+cost, 16), 0})
 			}
 		}
 	}
 }
 
 func TestSumsAboutInfinity(t *testing.T) {
-	l := links(0, 1, 8, 0, 2, 15, 0, 3, 1)
+	l := sample.Links(0, 1, 8, 0, 2, 15, 0, 3, 1)
 	wantRound(t, 4, l, 3, []int{7, 16, 16, 0}, []int{1, 15, 16, 0})
 	wantRound(t, 4, l, 3, []int{8, 16, 16, 0}, []int{1, 16, 16, 0})
 	wantRound(t, 4, l, 3, []int{9, 16, 16, 0}, []int{1, 16, 16, 0})
 	wantRound(t, 4, l, 3, []int{0, 16, 16, 0}, []int{1, 8, 15, 0})
 	wantRound(t, 4, l, 3, []int{1, 16, 16, 0}, []int{1, 9, 16, 0})
 	wantRound(t, 4, l, 1, []int{16, 15, 16, 15}, []int{16, 0, 16, 16})
-	wantRun(t, 4, chain(4, 5), 0, []int{0, 5, 10, 15}, 3)
-	wantRun(t, 4, links(0, 1, 5, 1, 2, 5, 2, 3, 6), 0, []int{0, 5, 10, 16}, 2)
-	wantRun(t, 4, links(0, 1, 5, 1, 2, 5, 2, 3, 7), 0, []int{0, 5, 10, 16}, 2)
-	wantRun(t, 5, chain(5, 8), 2, []int{16, 8, 0, 8, 16}, 1)
-	wantRun(t, 4, chain(4, 15), 3, []int{16, 16, 15, 0}, 1)
+	wantRun(t, 4, sample.Chain(4, 5), 0, []int{0, 5, 10, 15}, 3)
+	wantRun(t, 4, sample.Links(0, 1, 5, 1, 2, 5, 2, 3, 6), 0, []int{0, 5, 10, 16}, 2)
+	wantRun(t, 4, sample.Links(0, 1, 5, 1, 2, 5, 2, 3, 7), 0, []int{0, 5, 10, 16}, 2)
+	wantRun(t, 5, sample.Chain(5, 8), 2, []int{16, 8, 0, 8, 16}, 1)
+	wantRun(t, 4, sample.Chain(4, 15), 3, []int{16, 16, 15, 0}, 1)
 }
 
 // TestNodeToIsHandedIn: whatever is handed in for node to, it has 0 then, and
@@ -372,7 +282,7 @@ func TestNodeToIsHandedIn(t *testing.T) {
 // TestOwnEstimate: that of the node itself is none of its neighbors', so new
 // estimates may also be greater.
 func TestOwnEstimate(t *testing.T) {
-	l := links(0, 1, 3, 1, 2, 4)
+	l := sample.Links(0, 1, 3, 1, 2, 4)
 	wantRound(t, 3, l, 0, []int{0, 1, 2}, []int{0, 3, 5})
 	wantRound(t, 3, l, 0, []int{16, 0, 0}, []int{0, 4, 4})
 	wantRound(t, 3, l, 0, []int{16, 0, 16}, []int{0, 16, 4})
@@ -388,7 +298,7 @@ func TestNodesWithoutNeighbors(t *testing.T) {
 			wantRun(t, n, nil, to, first(n, to), 0)
 		}
 	}
-	l := links(1, 3, 2)
+	l := sample.Links(1, 3, 2)
 	wantRound(t, 4, l, 1, []int{5, 0, 5, 5}, []int{16, 0, 16, 2})
 	wantRound(t, 4, l, 0, []int{5, 4, 5, 5}, []int{0, 7, 16, 6})
 	wantRun(t, 4, l, 1, []int{16, 0, 16, 2}, 1)
@@ -397,7 +307,7 @@ func TestNodesWithoutNeighbors(t *testing.T) {
 
 // TestSeveralParts: nodes of other parts stay at 16, and do not count rounds.
 func TestSeveralParts(t *testing.T) {
-	l := links(0, 1, 1, 1, 2, 1, 4, 3, 2, 5, 4, 3, 6, 5, 4)
+	l := sample.Links(0, 1, 1, 1, 2, 1, 4, 3, 2, 5, 4, 3, 6, 5, 4)
 	wantRun(t, 8, l, 0, []int{0, 1, 2, 16, 16, 16, 16, 16}, 2)
 	wantRun(t, 8, l, 1, []int{1, 0, 1, 16, 16, 16, 16, 16}, 1)
 	wantRun(t, 8, l, 3, []int{16, 16, 16, 0, 2, 5, 9, 16}, 3)
@@ -407,7 +317,7 @@ func TestSeveralParts(t *testing.T) {
 
 // TestRoundOfGraphs compares with the minimum link by link.
 func TestRoundOfGraphs(t *testing.T) {
-	graphs(func(n int, l []api.Link) {
+	sample.Graphs(func(n int, l []api.Link) {
 		for to := range n {
 			wantRound(t, n, l, to, first(n, to), after(n, l, to, first(n, to)))
 			lists(n, func(d []int) { wantRound(t, n, l, to, d, after(n, l, to, d)) })
@@ -440,41 +350,19 @@ func TestSmallestOfManyNeighbors(t *testing.T) {
 	}
 }
 
-// orders calls f with every order of the links in l[at:], behind those before
-// them.
-func orders(l []api.Link, at int, f func(l []api.Link)) {
-	if at == len(l) {
-		f(l)
-		return
-	}
-	for i := at; i < len(l); i++ {
-		l[at], l[i] = l[i], l[at]
-		orders(l, at+1, f)
-		l[at], l[i] = l[i], l[at]
-	}
-}
-
 // TestDirectionsAndOrders: links may be told in every direction and order.
 func TestDirectionsAndOrders(t *testing.T) {
-	l := links(0, 1, 9, 0, 2, 2, 2, 1, 3, 1, 3, 4)
-	for mask := range 1 << len(l) {
-		turned := slices.Clone(l)
-		for i := range turned {
-			if mask>>i&1 == 1 {
-				turned[i].A, turned[i].B = turned[i].B, turned[i].A
-			}
-		}
-		orders(turned, 0, func(l []api.Link) {
-			wantRound(t, 4, l, 0, []int{0, 16, 16, 16}, []int{0, 9, 2, 16})
-			wantRound(t, 4, l, 0, []int{1, 2, 3, 4}, []int{0, 6, 3, 6})
-			wantRun(t, 4, l, 0, []int{0, 5, 2, 9}, 3)
-			wantRun(t, 4, l, 3, []int{9, 4, 7, 0}, 3)
-		})
-	}
-	graphs(func(n int, l []api.Link) {
+	l := sample.Links(0, 1, 9, 0, 2, 2, 2, 1, 3, 1, 3, 4)
+	sample.Orders(l, func(l []api.Link) {
+		wantRound(t, 4, l, 0, []int{0, 16, 16, 16}, []int{0, 9, 2, 16})
+		wantRound(t, 4, l, 0, []int{1, 2, 3, 4}, []int{0, 6, 3, 6})
+		wantRun(t, 4, l, 0, []int{0, 5, 2, 9}, 3)
+		wantRun(t, 4, l, 3, []int{9, 4, 7, 0}, 3)
+	})
+	sample.Graphs(func(n int, l []api.Link) {
 		for to := range n {
 			d, k, _ := Run(n, l, to)
-			wantRun(t, n, flipped(l), to, d, k)
+			wantRun(t, n, sample.Flipped(l), to, d, k)
 		}
 	})
 }
@@ -482,7 +370,7 @@ func TestDirectionsAndOrders(t *testing.T) {
 // TestRunIsRounds compares with rounds done one by one, as they have to be and
 // as Round does them, until nothing changes.
 func TestRunIsRounds(t *testing.T) {
-	graphs(func(n int, l []api.Link) {
+	sample.Graphs(func(n int, l []api.Link) {
 		for to := range n {
 			want, rounds := first(n, to), 0
 			for next := after(n, l, to, want); !slices.Equal(next, want); next = after(n, l, to, want) {
@@ -527,7 +415,7 @@ func visit(l []api.Link, at, sum, steps int, far, few []int) {
 // there are as many rounds as the longest of these paths has links, if each
 // has as few as it can have.
 func TestRunFindsPaths(t *testing.T) {
-	graphs(func(n int, l []api.Link) {
+	sample.Graphs(func(n int, l []api.Link) {
 		for to := range n {
 			far, few := slices.Repeat([]int{16}, n), make([]int, n)
 			visit(l, to, 0, 0, far, few)
@@ -538,7 +426,7 @@ func TestRunFindsPaths(t *testing.T) {
 
 // TestRunFindsWhatStarFinds: all algorithms find the same distances.
 func TestRunFindsWhatStarFinds(t *testing.T) {
-	graphs(func(n int, l []api.Link) {
+	sample.Graphs(func(n int, l []api.Link) {
 		rows, err := graph.Costs(n, l)
 		if err != nil {
 			t.Fatalf("Costs(%d, %v) returns %v", n, l, err)
@@ -560,20 +448,20 @@ func TestRunFindsWhatStarFinds(t *testing.T) {
 // nothing changes does not count.
 func TestNumberOfRounds(t *testing.T) {
 	wantRun(t, 1, nil, 0, []int{0}, 0)
-	wantRun(t, 8, chain(8, 1), 0, []int{0, 1, 2, 3, 4, 5, 6, 7}, 7)
-	wantRun(t, 8, chain(8, 2), 7, []int{14, 12, 10, 8, 6, 4, 2, 0}, 7)
-	wantRun(t, 8, chain(8, 2), 3, []int{6, 4, 2, 0, 2, 4, 6, 8}, 4)
-	wantRun(t, 2, links(1, 0, 15), 0, []int{0, 15}, 1)
-	wantRun(t, 3, links(0, 1, 3, 1, 2, 4, 0, 2, 7), 0, []int{0, 3, 7}, 1)
-	wantRun(t, 3, links(0, 1, 3, 1, 2, 4, 0, 2, 8), 0, []int{0, 3, 7}, 2)
-	wantRun(t, 3, links(0, 1, 3, 1, 2, 4, 0, 2, 8), 2, []int{7, 4, 0}, 2)
+	wantRun(t, 8, sample.Chain(8, 1), 0, []int{0, 1, 2, 3, 4, 5, 6, 7}, 7)
+	wantRun(t, 8, sample.Chain(8, 2), 7, []int{14, 12, 10, 8, 6, 4, 2, 0}, 7)
+	wantRun(t, 8, sample.Chain(8, 2), 3, []int{6, 4, 2, 0, 2, 4, 6, 8}, 4)
+	wantRun(t, 2, sample.Links(1, 0, 15), 0, []int{0, 15}, 1)
+	wantRun(t, 3, sample.Links(0, 1, 3, 1, 2, 4, 0, 2, 7), 0, []int{0, 3, 7}, 1)
+	wantRun(t, 3, sample.Links(0, 1, 3, 1, 2, 4, 0, 2, 8), 0, []int{0, 3, 7}, 2)
+	wantRun(t, 3, sample.Links(0, 1, 3, 1, 2, 4, 0, 2, 8), 2, []int{7, 4, 0}, 2)
 }
 
 // TestArgumentsStayAsTheyWere: also the memory behind their length, and also
 // where there is an error.
 func TestArgumentsStayAsTheyWere(t *testing.T) {
 	unchanged := func(n int, l []api.Link, to int, d []int) {
-		memory, list := slices.Concat(l, links(7, 7, 77, 8, 8, 88)), append(slices.Clone(d), 70, 71)
+		memory, list := slices.Concat(l, sample.Links(7, 7, 77, 8, 8, 88)), append(slices.Clone(d), 70, 71)
 		linksBefore, listBefore := slices.Clone(memory), slices.Clone(list)
 		_, _ = Round(n, memory[:len(l)], to, list[:len(d)])
 		_, _, _ = Run(n, memory[:len(l)], to)
@@ -581,7 +469,7 @@ func TestArgumentsStayAsTheyWere(t *testing.T) {
 			t.Errorf("%v and %v became %v and %v", linksBefore, listBefore, memory, list)
 		}
 	}
-	graphs(func(n int, l []api.Link) {
+	sample.Graphs(func(n int, l []api.Link) {
 		for to := range n {
 			lists(n, func(d []int) { unchanged(n, l, to, d) })
 		}
@@ -589,8 +477,8 @@ func TestArgumentsStayAsTheyWere(t *testing.T) {
 		unchanged(n, l, 0, make([]int, n+1))
 		unchanged(n, l, 0, slices.Repeat([]int{17}, n))
 	})
-	unchanged(3, links(0, 1, 4, 1, 0, 4), 0, []int{0, 16, 16})
-	unchanged(9, links(0, 1, 4), 0, make([]int, 9))
+	unchanged(3, sample.Links(0, 1, 4, 1, 0, 4), 0, []int{0, 16, 16})
+	unchanged(9, sample.Links(0, 1, 4), 0, make([]int, 9))
 }
 
 // wantOwn checks that a change of what ask returns, also behind its length,
@@ -616,7 +504,7 @@ func wantOwn(t *testing.T, name string, ask func() []int) {
 
 func TestResultsAreOwn(t *testing.T) {
 	for n := 1; n <= 8; n++ {
-		l := made(n, 3, 4)
+		l := sample.Made(n, 3, 4)
 		linksBefore := slices.Clone(l)
 		for to := range n {
 			// Estimates that a round does not change might be handed back.
@@ -638,7 +526,7 @@ func TestResultsAreOwn(t *testing.T) {
 func TestArgumentsAreNotKept(t *testing.T) {
 	for n := 1; n <= 8; n++ {
 		for to := range n {
-			l := made(n, 2, 4)
+			l := sample.Made(n, 2, 4)
 			d, rounds, _ := Run(n, l, to)
 			want := slices.Clone(d)
 			next, _ := Round(n, l, to, d)
