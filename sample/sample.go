@@ -117,6 +117,17 @@ func Graphs(f func(n int, l []api.Link)) {
 	}
 }
 
+// Fours returns graphs with 4 nodes that have few links, so that these can be
+// put in every order.
+func Fours() [][]api.Link {
+	return [][]api.Link{
+		Links(0, 1, 3, 1, 2, 4, 0, 2, 7),
+		Links(0, 1, 1, 0, 2, 1, 1, 3, 1, 2, 3, 1),
+		Links(0, 1, 8, 1, 3, 8, 0, 2, 8, 2, 3, 7),
+		Links(0, 3, 2, 1, 2, 9),
+	}
+}
+
 // Flipped returns the links in the opposite order, with their ends exchanged.
 func Flipped(l []api.Link) []api.Link {
 	var other []api.Link
@@ -124,6 +135,14 @@ func Flipped(l []api.Link) []api.Link {
 		other = append(other, api.Link{A: link.B, B: link.A, Cost: link.Cost})
 	}
 	return other
+}
+
+// Spoil changes a list and the memory behind its length.
+func Spoil(list []int) {
+	list = list[:cap(list)]
+	for i := range list {
+		list[i] = -1
+	}
 }
 
 // Orders calls f for the links in every order and with the ends of each of

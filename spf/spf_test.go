@@ -260,12 +260,7 @@ func TestShorterPathsAreFoundLater(t *testing.T) {
 // TestEveryOrder: neither the order of the links nor that of their ends
 // changes anything.
 func TestEveryOrder(t *testing.T) {
-	for _, l := range [][]api.Link{
-		sample.Links(0, 1, 3, 1, 2, 4, 0, 2, 7),
-		sample.Links(0, 1, 1, 0, 2, 1, 1, 3, 1, 2, 3, 1),
-		sample.Links(0, 1, 8, 1, 3, 8, 0, 2, 8, 2, 3, 7),
-		sample.Links(0, 3, 2, 1, 2, 9),
-	} {
+	for _, l := range sample.Fours() {
 		for from := range 4 {
 			far, ups := shortest(4, l, from)
 			sample.Orders(l, func(l []api.Link) { want(t, 4, l, from, far, ups) })
@@ -415,23 +410,15 @@ func TestResultsAreOwn(t *testing.T) {
 				if !slices.Equal(gotUps[i], ups[i]) {
 					t.Errorf("a change of the lists before list %d made it %v, want %v", i, gotUps[i], ups[i])
 				}
-				spoil(gotUps[i])
+				sample.Spoil(gotUps[i])
 			}
-			spoil(gotFar)
+			sample.Spoil(gotFar)
 			if !slices.Equal(otherFar, far) || !same(otherUps, ups) || !slices.Equal(l, before) {
 				t.Errorf("other results became %v and %v, want %v and %v", otherFar, otherUps, far, ups)
 			}
 			want(t, n, l, from, far, ups)
 		}
 	})
-}
-
-// spoil changes a list and the memory behind its length.
-func spoil(list []int) {
-	list = list[:cap(list)]
-	for i := range list {
-		list[i] = -1
-	}
 }
 
 // TestArgumentsAreNotKept: a change of the links afterwards changes no result.
