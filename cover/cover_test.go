@@ -9,6 +9,7 @@ import (
 	"waywarden/api"
 	"waywarden/plain"
 	"waywarden/pref"
+	"waywarden/sample"
 )
 
 // parse returns the networks with these texts.
@@ -45,25 +46,6 @@ func wantError(t *testing.T, l []api.Net, want api.Errno) {
 	if got, err := Size(l); got != 0 || plain.Told(err) != want {
 		t.Errorf("Size(%v) = %d, %v, want 0, %v", l, got, err, want)
 	}
-}
-
-// hosts returns count networks of one address each, step apart.
-func hosts(first uint32, count, step int) []api.Net {
-	var nets []api.Net
-	for i := range count {
-		nets = append(nets, api.Net{Addr: first + uint32(i*step), Len: 32})
-	}
-	return nets
-}
-
-// shuffled returns l in an order that depends on the seed.
-func shuffled(l []api.Net, seed int) []api.Net {
-	mixed := slices.Clone(l)
-	for i := len(mixed) - 1; i > 0; i-- {
-		j := api.Mix(seed, i) % (i + 1)
-		mixed[i], mixed[j] = mixed[j], mixed[i]
-	}
-	return mixed
 }
 
 func TestCoverOfTexts(t *testing.T) {
@@ -190,7 +172,7 @@ func TestCoverOfAllSubsets(t *testing.T) {
 		for subset := range 1 << len(w.nets) {
 			nets, blocks := w.chosen(subset)
 			size := bits.OnesCount(uint(blocks)) * w.blockSize()
-			wantCover(t, shuffled(nets, subset), least[blocks], size)
+			wantCover(t, sample.Shuffled(nets, subset), least[blocks], size)
 			if t.Failed() {
 				return
 			}
@@ -286,17 +268,17 @@ func TestCoverOfMixedNets(t *testing.T) {
 
 // TestLongestLists: lists of 64 networks, of which all, some or one remain.
 func TestLongestLists(t *testing.T) {
-	apart := hosts(0x0a000000, api.MaxNets, 2)
+	apart := sample.Hosts(0x0a000000, api.MaxNets, 2)
 	wantCover(t, apart, apart, 64)
-	wantCover(t, shuffled(apart, 1), apart, 64)
+	wantCover(t, sample.Shuffled(apart, 1), apart, 64)
 
-	joined := hosts(0x0a000000, api.MaxNets, 1)
+	joined := sample.Hosts(0x0a000000, api.MaxNets, 1)
 	wantCover(t, joined, parse(t, "10.0.0.0/26"), 64)
-	wantCover(t, shuffled(joined, 2), parse(t, "10.0.0.0/26"), 64)
+	wantCover(t, sample.Shuffled(joined, 2), parse(t, "10.0.0.0/26"), 64)
 
-	shifted := hosts(0x0a000001, api.MaxNets, 1)
+	shifted := sample.Hosts(0x0a000001, api.MaxNets, 1)
 	want, size := byIntervals(shifted)
-	wantCover(t, shuffled(shifted, 3), want, size)
+	wantCover(t, sample.Shuffled(shifted, 3), want, size)
 
 	same := slices.Repeat(parse(t, "10.0.0.0/8"), api.MaxNets)
 	wantCover(t, same, same[:1], 1<<24)
@@ -320,45 +302,25 @@ func TestAllLengths(t *testing.T) {
 
 func TestTooMany(t *testing.T) {
 	for _, count := range []int{api.MaxNets + 1, api.MaxNets + 2, 128, 1000} {
-		wantError(t, hosts(0, count, 2), api.ErrFull)
+		wantError(t, sample.Hosts(0, count, 2), api.ErrFull)
 		// The length of the list counts, not the length of the result.
-		wantError(t, hosts(0, count, 1), api.ErrFull)
+		wantError(t, sample.Hosts(0, count, 1), api.ErrFull)
 		wantError(t, slices.Repeat(parse(t, "10.0.0.0/8"), count), api.ErrFull)
 		wantError(t, make([]api.Net, count), api.ErrFull)
 	}
 }
 
-// invalid are networks that pref.Check rejects.
-var invalid = []struct {
-	n   api.Net
-	err api.Errno
-}{
-	{api.Net{Len: -1}, api.ErrRange},
-	{api.Net{Len: 33}, api.ErrRange},
-	{api.Net{Len: 64}, api.ErrRange},
-	{api.Net{Len: math.MaxInt}, api.ErrRange},
-	{api.Net{Len: math.MinInt}, api.ErrRange},
-	{api.Net{Len: 1<<32 + 8}, api.ErrRange},
-	{api.Net{Addr: 1, Len: 33}, api.ErrRange},
-	{api.Net{Addr: 1, Len: -1}, api.ErrRange},
-	{api.Net{Addr: 1, Len: 0}, api.ErrForm},
-	{api.Net{Addr: 1, Len: 31}, api.ErrForm},
-	{api.Net{Addr: 0x0a000001, Len: 8}, api.ErrForm},
-	{api.Net{Addr: 0xffffffff, Len: 31}, api.ErrForm},
-	{api.Net{Addr: 0x80000000, Len: 0}, api.ErrForm},
-}
-
 // TestInvalid puts an invalid network at each place of lists of valid ones.
 func TestInvalid(t *testing.T) {
-	for _, c := range invalid {
-		wantError(t, []api.Net{c.n}, c.err)
-		wantError(t, []api.Net{c.n, c.n}, c.err)
+	for _, c := range sample.NotNets() {
+		wantError(t, []api.Net{c.Net}, c.Want)
+		wantError(t, []api.Net{c.Net, c.Net}, c.Want)
 		for _, valid := range [][]api.Net{
 			parse(t, "0.0.0.0/0", "10.0.0.0/8", "10.0.0.0/8"),
-			hosts(0x0a000000, api.MaxNets-1, 1),
+			sample.Hosts(0x0a000000, api.MaxNets-1, 1),
 		} {
 			for i := range len(valid) + 1 {
-				wantError(t, slices.Insert(slices.Clone(valid), i, c.n), c.err)
+				wantError(t, slices.Insert(slices.Clone(valid), i, c.Net), c.Want)
 			}
 		}
 	}
@@ -368,10 +330,10 @@ func TestInvalid(t *testing.T) {
 // would be sorted.
 func TestFirstError(t *testing.T) {
 	valid := parse(t, "10.0.0.0/8")[0]
-	for _, a := range invalid {
-		for _, b := range invalid {
-			wantError(t, []api.Net{a.n, b.n}, a.err)
-			wantError(t, []api.Net{valid, a.n, valid, b.n, valid}, a.err)
+	for _, a := range sample.NotNets() {
+		for _, b := range sample.NotNets() {
+			wantError(t, []api.Net{a.Net, b.Net}, a.Want)
+			wantError(t, []api.Net{valid, a.Net, valid, b.Net, valid}, a.Want)
 		}
 	}
 }
@@ -379,12 +341,12 @@ func TestFirstError(t *testing.T) {
 // TestInvalidBeforeFull: an invalid network precedes ErrFull, also if it is
 // behind the first 64.
 func TestInvalidBeforeFull(t *testing.T) {
-	for _, c := range invalid {
+	for _, c := range sample.NotNets() {
 		for _, i := range []int{0, 1, 63, 64, 65, 99, 100} {
-			wantError(t, slices.Insert(hosts(0, 100, 2), i, c.n), c.err)
+			wantError(t, slices.Insert(sample.Hosts(0, 100, 2), i, c.Net), c.Want)
 		}
-		wantError(t, append(hosts(0, api.MaxNets, 1), c.n), c.err)
-		wantError(t, slices.Repeat([]api.Net{c.n}, 100), c.err)
+		wantError(t, append(sample.Hosts(0, api.MaxNets, 1), c.Net), c.Want)
+		wantError(t, slices.Repeat([]api.Net{c.Net}, 100), c.Want)
 	}
 }
 
@@ -406,24 +368,24 @@ func TestHas(t *testing.T) {
 // hide the valid networks before and behind it.
 func TestHasOfInvalid(t *testing.T) {
 	valid := parse(t, "10.0.0.0/8")[0]
-	for _, c := range invalid {
-		for _, a := range []uint32{c.n.Addr, 0, 1, 0x80000000, 0xffffffff} {
-			if Has([]api.Net{c.n}, a) {
-				t.Errorf("Has([%v], %#x) = true", c.n, a)
+	for _, c := range sample.NotNets() {
+		for _, a := range []uint32{c.Net.Addr, 0, 1, 0x80000000, 0xffffffff} {
+			if Has([]api.Net{c.Net}, a) {
+				t.Errorf("Has([%v], %#x) = true", c.Net, a)
 			}
-			if Has([]api.Net{c.n, valid}, a) != (a>>24 == 10) || Has([]api.Net{valid, c.n}, a) != (a>>24 == 10) {
-				t.Errorf("Has([%v %v], %#x) is wrong", c.n, valid, a)
+			if Has([]api.Net{c.Net, valid}, a) != (a>>24 == 10) || Has([]api.Net{valid, c.Net}, a) != (a>>24 == 10) {
+				t.Errorf("Has([%v %v], %#x) is wrong", c.Net, valid, a)
 			}
 		}
-		if !Has([]api.Net{c.n, valid}, 0x0a000001) || !Has([]api.Net{valid, c.n}, 0x0a000001) {
-			t.Errorf("%v hides %v", c.n, valid)
+		if !Has([]api.Net{c.Net, valid}, 0x0a000001) || !Has([]api.Net{valid, c.Net}, 0x0a000001) {
+			t.Errorf("%v hides %v", c.Net, valid)
 		}
 	}
 }
 
 // TestHasOfLongList: Has has no errors, and so no limit.
 func TestHasOfLongList(t *testing.T) {
-	l := hosts(0, 1000, 2)
+	l := sample.Hosts(0, 1000, 2)
 	for a := range uint32(2002) {
 		if want := a < 2000 && a%2 == 0; Has(l, a) != want {
 			t.Errorf("Has(%d hosts, %d) = %v", len(l), a, !want)

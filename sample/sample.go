@@ -1,4 +1,5 @@
-// Package sample has graphs that the tests of several packages use.
+// Package sample has graphs, networks and times that the tests of several
+// packages use.
 package sample
 
 import (

@@ -9,6 +9,7 @@ import (
 	"waywarden/api"
 	"waywarden/plain"
 	"waywarden/pref"
+	"waywarden/sample"
 )
 
 // parse returns the network with this text.
@@ -19,15 +20,6 @@ func parse(t *testing.T, s string) api.Net {
 		t.Fatalf("%q is no network", s)
 	}
 	return n
-}
-
-// hosts returns count networks of one address each, step apart.
-func hosts(first uint32, count, step int) []api.Net {
-	var nets []api.Net
-	for i := range count {
-		nets = append(nets, api.Net{Addr: first + uint32(i*step), Len: 32})
-	}
-	return nets
 }
 
 // pair is a table and what it must contain.
@@ -169,16 +161,6 @@ func (p pair) checkSize() {
 	}
 }
 
-// shuffled returns l in an order that depends on the seed.
-func shuffled(l []api.Net, seed int) []api.Net {
-	mixed := slices.Clone(l)
-	for i := len(mixed) - 1; i > 0; i-- {
-		j := api.Mix(seed, i) % (i + 1)
-		mixed[i], mixed[j] = mixed[j], mixed[i]
-	}
-	return mixed
-}
-
 func TestEmpty(t *testing.T) {
 	p := newPair(t)
 	if p.table == nil {
@@ -280,9 +262,9 @@ func TestChain(t *testing.T) {
 		}
 		for seed := range 5 {
 			p := newPair(t)
-			p.puts(shuffled(nets, seed)...)
+			p.puts(sample.Shuffled(nets, seed)...)
 			p.check()
-			for _, n := range shuffled(nets, seed+5) {
+			for _, n := range sample.Shuffled(nets, seed+5) {
 				p.drop(n)
 				p.wantNot(n, api.ErrNone)
 				p.wantFind(a)
@@ -361,8 +343,8 @@ func TestSmallTables(t *testing.T) {
 // TestMixedCalls compares long series of calls with the model.
 func TestMixedCalls(t *testing.T) {
 	for seed, nets := range [][]api.Net{
-		world(0, 0, 4), world(0xfffffff0, 28, 4), world(0x0a000000, 8, 4), hosts(0x0a000000, 80, 3),
-		append(world(0, 0, 4), world(0, 28, 4)...), append(world(0x0a000000, 8, 4), hosts(0x0a000000, 60, 1)...),
+		world(0, 0, 4), world(0xfffffff0, 28, 4), world(0x0a000000, 8, 4), sample.Hosts(0x0a000000, 80, 3),
+		append(world(0, 0, 4), world(0, 28, 4)...), append(world(0x0a000000, 8, 4), sample.Hosts(0x0a000000, 60, 1)...),
 	} {
 		p := newPair(t)
 		for step := range 3000 {
@@ -389,10 +371,10 @@ func TestMixedCalls(t *testing.T) {
 
 // TestOrder: the list does not depend on the order of the calls.
 func TestOrder(t *testing.T) {
-	nets := append(world(0x0a000000, 8, 4), hosts(0x0a000001, 30, 2)...)
+	nets := append(world(0x0a000000, 8, 4), sample.Hosts(0x0a000001, 30, 2)...)
 	for seed := range 100 {
 		p := newPair(t)
-		p.puts(shuffled(nets, seed)...)
+		p.puts(sample.Shuffled(nets, seed)...)
 		p.check()
 	}
 }
@@ -424,7 +406,7 @@ func (p pair) wantFull(others ...api.Net) {
 // a node for it already.
 func TestFull(t *testing.T) {
 	p := newPair(t)
-	nets := hosts(0x0a000000, api.MaxNets, 1)
+	nets := sample.Hosts(0x0a000000, api.MaxNets, 1)
 	for i, n := range nets {
 		p.put(n, i)
 		p.put(n, i+1) // it is not new
@@ -457,47 +439,26 @@ func TestFullOfNested(t *testing.T) {
 // room for at once.
 func TestDroppedAreNotCounted(t *testing.T) {
 	p := newPair(t)
-	nets := hosts(0x0a000000, 10_000, 7)
+	nets := sample.Hosts(0x0a000000, 10_000, 7)
 	for i, n := range nets {
 		if i >= api.MaxNets {
 			p.drop(nets[i-api.MaxNets])
 		}
 		p.put(n, i)
 	}
-	p.wantFull(hosts(0x0a000000, 1, 1)...)
-}
-
-// invalid are networks that pref.Check rejects.
-var invalid = []struct {
-	n   api.Net
-	err api.Errno
-}{
-	{api.Net{Len: -1}, api.ErrRange},
-	{api.Net{Len: 33}, api.ErrRange},
-	{api.Net{Len: 64}, api.ErrRange},
-	{api.Net{Len: math.MaxInt}, api.ErrRange},
-	{api.Net{Len: math.MinInt}, api.ErrRange},
-	{api.Net{Len: 1<<32 + 8}, api.ErrRange},
-	{api.Net{Addr: 0x0a000000, Len: 1<<32 + 8}, api.ErrRange},
-	{api.Net{Addr: 1, Len: 33}, api.ErrRange},
-	{api.Net{Addr: 1, Len: -1}, api.ErrRange},
-	{api.Net{Addr: 1, Len: 0}, api.ErrForm},
-	{api.Net{Addr: 1, Len: 31}, api.ErrForm},
-	{api.Net{Addr: 0x0a000001, Len: 8}, api.ErrForm},
-	{api.Net{Addr: 0xffffffff, Len: 31}, api.ErrForm},
-	{api.Net{Addr: 0x80000000, Len: 0}, api.ErrForm},
+	p.wantFull(sample.Hosts(0x0a000000, 1, 1)...)
 }
 
 // TestInvalid: the errors of pref.Check precede ErrFull and ErrNone, and
 // nothing changes, in tables that are empty, ordinary or full.
 func TestInvalid(t *testing.T) {
 	ordinary := []api.Net{{}, parse(t, "10.0.0.0/8"), parse(t, "0.0.0.1/32"), parse(t, "255.255.255.254/31")}
-	for _, nets := range [][]api.Net{nil, ordinary, hosts(0, api.MaxNets, 1)} {
+	for _, nets := range [][]api.Net{nil, ordinary, sample.Hosts(0, api.MaxNets, 1)} {
 		p := newPair(t)
 		p.puts(nets...)
-		for _, c := range invalid {
-			p.wantPut(c.n, c.err)
-			p.wantNot(c.n, c.err)
+		for _, c := range sample.NotNets() {
+			p.wantPut(c.Net, c.Want)
+			p.wantNot(c.Net, c.Want)
 			p.check()
 		}
 	}
@@ -509,7 +470,7 @@ func TestApart(t *testing.T) {
 	p.puts(world(0, 0, 4)...)
 	q.check()
 	q.put(api.Net{}, 50)
-	q.puts(hosts(0, 10, 1)...)
+	q.puts(sample.Hosts(0, 10, 1)...)
 	p.check()
 	q.check()
 	for _, n := range p.list() {

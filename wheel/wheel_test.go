@@ -2,7 +2,6 @@ package wheel
 
 import (
 	"cmp"
-	"math"
 	"slices"
 	"testing"
 
@@ -15,7 +14,7 @@ import (
 // follow the program if it takes another number for them.
 const (
 	ids  = 64
-	last = 1099511627776
+	last = sample.Last
 )
 
 // pair is a wheel and, as a plain list of all ids, what it must contain.
@@ -181,23 +180,6 @@ func notIDs() []int {
 	return append(sample.NotNodes(ids), -2, -63, 127, 128, 1<<32+1, 1<<62)
 }
 
-// tooLate returns numbers that are greater than every time.
-func tooLate() []int {
-	return []int{last + 1, last + 2, last + 64, 2 * last, 1 << 62, math.MaxInt}
-}
-
-// before returns numbers that are less than now; some of them are not in their
-// low bits.
-func before(now int) []int {
-	list := []int{math.MinInt, -last, -1 << 32, -65, -64, -2, -1}
-	for _, at := range []int{0, 1, now / 2, now - 256, now - 65, now - 64, now - 2, now - 1} {
-		if at >= 0 && at < now {
-			list = append(list, at)
-		}
-	}
-	return list
-}
-
 // starts returns current times, among them some beside those at which a wheel
 // with a power of two of slots has turned.
 func starts() []int {
@@ -313,7 +295,7 @@ func TestDueTimes(t *testing.T) {
 	for _, now := range append(starts(), last-2, last-1) {
 		p := pairAt(t, now)
 		for _, id := range []int{0, 31, 63} {
-			for _, at := range append(append(before(now), now), tooLate()...) {
+			for _, at := range append(append(sample.Before(now), now), sample.TooLate()...) {
 				p.wantNoSet(id, at)
 			}
 			p.clear(id)
@@ -326,7 +308,7 @@ func TestDueTimes(t *testing.T) {
 		p.wantTick(now+1, 0, 31, 63)
 	}
 	p := pairAt(t, last)
-	for _, at := range append(append(before(last), last), tooLate()...) {
+	for _, at := range append(append(sample.Before(last), last), sample.TooLate()...) {
 		p.wantNoSet(0, at)
 	}
 	p.wantTick(last)
@@ -549,7 +531,7 @@ func TestNotTicks(t *testing.T) {
 	for _, start := range append(starts(), last-300, last-200) {
 		p := pairAt(t, start)
 		p.sets(start+1, start+2, start+64, start+65, last-1, last)
-		for _, now := range append(before(start), tooLate()...) {
+		for _, now := range append(sample.Before(start), sample.TooLate()...) {
 			p.wantNoTick(now)
 			p.tick(start)
 		}
@@ -560,7 +542,7 @@ func TestNotTicks(t *testing.T) {
 		p.wantTick(start+2, 1)
 		p.drain()
 		p.tick(last)
-		for _, now := range append(before(last), tooLate()...) {
+		for _, now := range append(sample.Before(last), sample.TooLate()...) {
 			p.wantNoTick(now)
 		}
 		p.wantTick(last)
@@ -870,7 +852,7 @@ func TestErrorsChangeNothing(t *testing.T) {
 						p.clear(id)
 					}
 				}
-				for _, at := range append(append(before(start), start), tooLate()...) {
+				for _, at := range append(append(sample.Before(start), start), sample.TooLate()...) {
 					p.wantNoSet(0, at)
 					p.wantNoSet(63, at)
 					p.wantNoSet(-1, at)
@@ -879,7 +861,7 @@ func TestErrorsChangeNothing(t *testing.T) {
 					p.wantNoSet(id, start+1)
 					p.wantNoClear(id)
 				}
-				for _, now := range append(before(start), tooLate()...) {
+				for _, now := range append(sample.Before(start), sample.TooLate()...) {
 					p.wantNoTick(now)
 				}
 				p.wantTick(start)
