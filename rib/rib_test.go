@@ -229,19 +229,6 @@ func heard(from, i, metric int) api.Heard {
 	return api.Heard{From: from, Net: net(i), Metric: metric}
 }
 
-// inOrder returns networks in the order of pref.Less, among them some with the
-// same address, the least and the greatest one, and lengths of one and of two
-// digits.
-func inOrder() []api.Net {
-	return []api.Net{
-		{}, {Len: 1}, {Len: 2}, {Len: 9}, {Len: 10}, {Len: 31}, {Len: 32},
-		{Addr: 1, Len: 32}, {Addr: 2, Len: 31},
-		{Addr: 0x09ffffff, Len: 32}, {Addr: 0x0a000000, Len: 8}, {Addr: 0x0a000000, Len: 24}, {Addr: 0x0b000000, Len: 8},
-		{Addr: 0x7fffffff, Len: 32}, {Addr: 0x80000000, Len: 1}, {Addr: 0x80000000, Len: 32},
-		{Addr: 0xc0a80000, Len: 16}, {Addr: 0xfffffffe, Len: 31}, {Addr: 0xffffffff, Len: 32},
-	}
-}
-
 // starts returns times, among them some beside powers of two.
 func starts() []int {
 	return []int{0, 1, 2, 119, 120, 179, 180, 300, 1000, 1<<31 - 1, 1 << 31, 1 << 32, last / 2, last - 1000, last - 301}
@@ -913,7 +900,7 @@ func TestFullAges(t *testing.T) {
 func TestSorted(t *testing.T) {
 	var want []api.Heard
 	for _, from := range []int{0, 3, 7} {
-		for i, n := range inOrder() {
+		for i, n := range sample.Ordered() {
 			want = append(want, api.Heard{From: from, Net: n, Metric: 1 + (from+7*i)%15})
 		}
 	}
@@ -936,7 +923,7 @@ func TestSorted(t *testing.T) {
 func TestSortedPairs(t *testing.T) {
 	var all []api.Heard
 	for from := range near {
-		for _, n := range inOrder() {
+		for _, n := range sample.Ordered() {
 			all = append(all, api.Heard{From: from, Net: n, Metric: 1 + len(all)%15})
 		}
 	}

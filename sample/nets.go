@@ -34,6 +34,19 @@ func NotNets() []NotNet {
 	}
 }
 
+// Ordered returns networks in the order of pref.Less, among them some with the
+// same address, the least and the greatest one, and lengths of one and of two
+// digits.
+func Ordered() []api.Net {
+	return []api.Net{
+		{}, {Len: 1}, {Len: 2}, {Len: 9}, {Len: 10}, {Len: 31}, {Len: 32},
+		{Addr: 1, Len: 32}, {Addr: 2, Len: 31},
+		{Addr: 0x09ffffff, Len: 32}, {Addr: 0x0a000000, Len: 8}, {Addr: 0x0a000000, Len: 24}, {Addr: 0x0b000000, Len: 8},
+		{Addr: 0x7fffffff, Len: 32}, {Addr: 0x80000000, Len: 1}, {Addr: 0x80000000, Len: 32},
+		{Addr: 0xc0a80000, Len: 16}, {Addr: 0xfffffffe, Len: 31}, {Addr: 0xffffffff, Len: 32},
+	}
+}
+
 // Hosts returns count networks of one address each, step apart.
 func Hosts(first uint32, count, step int) []api.Net {
 	var nets []api.Net
